@@ -1,0 +1,1 @@
+"""Priceblind: a store of files on one strip of disk, thrifty by every price list at once."""
