@@ -2,6 +2,9 @@
 
 LETTERS = "abcdefghijklmnopqrstuvwxyz"
 LONGEST_NAME = 12
+LEAST_Q = 2
+GREATEST_Q = 64
+GREATEST_SIZE = 4096
 
 
 def is_integer(value):
@@ -43,3 +46,13 @@ def is_name(value):
     if not isinstance(value, str) or not is_within(len(value), 1, LONGEST_NAME):
         return False
     return all([letter in LETTERS for letter in value])
+
+
+def is_q(value):
+    """Whether the value is a q, by which strips are laid out."""
+    return is_within(value, LEAST_Q, GREATEST_Q)
+
+
+def is_size(value):
+    """Whether the value is the size of a file."""
+    return is_within(value, 1, GREATEST_SIZE)

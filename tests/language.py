@@ -46,19 +46,24 @@ STATEMENTS = (
     ast.Assign, ast.AugAssign, ast.AnnAssign, ast.If, ast.While, ast.For, ast.Return, ast.Break,
     ast.Continue, ast.Pass, ast.Raise, ast.Assert, ast.Delete, ast.Nonlocal, ast.Match, ast.With,
     ast.Try, ast.Expr, ast.FunctionDef, ast.ClassDef, ast.ImportFrom)
+COMPREHENSIONS = (ast.ListComp, ast.SetComp, ast.DictComp, ast.GeneratorExp)
+BARRED_PREFIXES = ("_pe_", "_dcw_", "_enum_", "_cm_", "_twin_re_", "_lay_", "_law_", "_stub_", "_sre")
+OF_VALUES = {name for kind in (str, int, list, dict, set, bytes) for name in dir(kind) if not name.startswith("_")}
+MAY_BE_METHODS = METHODS - {"format", "sort", "translate", "maketrans"}
+MAY_BE_ATTRIBUTES = "count index title find get join lower upper split strip copy add".split()
 PLAIN_NAME = re.compile(r"_|_?[A-Za-z][A-Za-z0-9_]*")
 
 
-def faults(text):
-    """Pairs (rule, line) of what is found in the text of a file."""
+def faults(text, others=()):
+    """Pairs (rule, line) of what is found in the text of a file; others are the package's other files."""
     tree = ast.parse(text)
     found = lines_at_fault(text)
     for node in tree.body:
         found += [("L3", node.lineno)] if not stands_at_module_level(node, tree) else []
-    own = own_methods(tree)
+    own = own_methods(tree).union(*[own_methods(ast.parse(other)) for other in others])
     for node in ast.walk(tree):
         found += [(rule, getattr(node, "lineno", 0)) for rule in rules_broken(node, own)]
-    return sorted(set(found))
+    return sorted(set(found + names_taken_twice(tree) + comprehensions_at_fault(tree)))
 
 
 def lines_at_fault(text):
@@ -95,8 +100,40 @@ def own_methods(tree):
                     if isinstance(node, ast.Attribute) and isinstance(node.ctx, ast.Store)}
 
 
+def names_taken_twice(tree):
+    """Parameters, variables and nested functions with the name of an import or a class of their file."""
+    taken = {node.name for node in tree.body if isinstance(node, ast.ClassDef)}
+    taken |= {alias.name for node in tree.body if isinstance(node, ast.ImportFrom) for alias in node.names}
+    found = []
+    for node in ast.walk(tree):
+        bound = None if isinstance(node, (ast.Attribute, ast.ClassDef)) else bound_name(node)
+        if bound in taken:
+            found.append(("L15", node.lineno))
+    return found
+
+
+def comprehensions_at_fault(tree):
+    """Comprehensions inside others, or in nested functions, with a name that is bound further out."""
+    found = []
+
+    def look(node, outer):
+        bound = set(outer)
+        if isinstance(node, COMPREHENSIONS):
+            inner = {name.id for part in node.generators for name in ast.walk(part.target)
+                     if isinstance(name, ast.Name)} - {"_"}
+            if inner & outer:
+                found.append(("L7", node.lineno))
+            bound |= inner
+        for child in ast.iter_child_nodes(node):
+            look(child, bound)
+
+    look(tree, set())
+    return found
+
+
 def rules_broken(node, own):
-    checks = (of_imports, of_definitions, of_statements, of_names, of_values, of_calls, of_raises)
+    checks = (of_imports, of_definitions, of_statements, of_names, of_values, of_calls, of_raises, of_sets,
+              of_own_names)
     return [rule for check in checks for rule in check(node, own)]
 
 
@@ -137,6 +174,10 @@ def of_statements(node, own):
         return ["L6"]
     if isinstance(node, ast.ExceptHandler) and node.type is None:
         return ["L6"]
+    if isinstance(node, ast.ExceptHandler):
+        caught = {part.id for part in ast.walk(node.type) if isinstance(part, ast.Name)}
+        # The first three may be caught around little, the others never.
+        return ["L19"] if caught & (set(OF_PYTHON) - {"KeyError", "ZeroDivisionError", "StopIteration"}) else []
     return []
 
 
@@ -151,6 +192,8 @@ def of_names(node, own):
             found.append("L15")
         if bound in BARRED_NAMES:
             found.append("L17")
+        if bound.startswith(BARRED_PREFIXES):
+            found.append("L12")
     if isinstance(node, ast.Name) and isinstance(node.ctx, ast.Load):
         if node.id in OF_PYTHON and node.id not in BUILTINS:
             found.append("L8")
@@ -195,7 +238,37 @@ def of_calls(node, own):
         return [] if called.attr in METHODS | own else ["L25"]
     if isinstance(called, ast.Name) and called.id == "bytes":
         return ["L7"]
+    if isinstance(called, ast.Name) and called.id in ("any", "all", "min", "max", "sum", "sorted"):
+        # The package has classes with an __eq__.
+        return ["L7"] if any(isinstance(part, ast.GeneratorExp) for part in node.args) else []
     return []
+
+
+def of_sets(node, own):
+    """Sets that are kept or iterated over, and what else may only be iterated over at once."""
+    value = getattr(node, "value", None) if isinstance(node, ast.Assign) else None
+    value = node.iter if isinstance(node, (ast.For, ast.comprehension)) else value
+    if isinstance(value, (ast.Set, ast.SetComp)):
+        return ["L24"]
+    if isinstance(value, ast.Call) and isinstance(value.func, ast.Name):
+        if value.func.id in ("set", "frozenset"):
+            return ["L24"]
+        if isinstance(node, ast.Assign) and value.func.id in ("zip", "enumerate", "reversed", "range", "iter"):
+            return ["L23"]
+    return []
+
+
+def of_own_names(node, own):
+    """Methods and attributes of the package's classes that have a name of a builtin value's."""
+    found = []
+    if isinstance(node, ast.ClassDef):
+        methods = {part.name for part in node.body if isinstance(part, ast.FunctionDef)}
+        if methods & set(OF_VALUES) - set(MAY_BE_METHODS):
+            found.append("L26")
+    if isinstance(node, ast.Attribute) and isinstance(node.ctx, ast.Store):
+        if node.attr in set(OF_VALUES) - set(MAY_BE_ATTRIBUTES):
+            found.append("L26")
+    return found
 
 
 def of_raises(node, own):
