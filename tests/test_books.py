@@ -123,7 +123,9 @@ class Names(Case):
 
     def test_what_is_no_number_of_a_name(self):
         for number in NO_INTEGERS + [0, -1, 27, 54, 27 * 27, 27 ** 11, 27 ** 12, 27 ** 12 + 1, 27 ** 13 - 1, TOP, HUGE,
-                                     -HUGE, 10 ** 60 - 1, 27 ** 12 - 27, 28 * 27]:
+                                     -HUGE, 10 ** 60 - 1, 27 ** 12 - 27, 28 * 27,
+                                     # What the letters of "aaaaaaaaaaaaa", one too many, would write.
+                                     (27 ** 13 - 1) // 26, (27 ** 30 - 1) // 26]:
             self.bad(BadNumber, "number", name_of, number)
 
 

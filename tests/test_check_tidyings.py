@@ -110,12 +110,16 @@ class Copies(Case):
         # The cells of the dropped file are free from the first copy on; it is not copied itself.
         self.same(shows_copies(NEAR, DROP, [(0, 1, 5), (0, 5, 0)]), True)
         self.same(shows_copies(NEAR, DROP, [(1, 0, 9), (0, 1, 5), (0, 5, 0)]), False)
-        self.same(shows_copies(NEAR, DROP, [(0, 1, -1), (0, -1, 0)]), False)
+        for below in (-1, -4, -5, -50, -HUGE):
+            self.same(shows_copies(NEAR, DROP, [(0, 1, below), (0, below, 0)]), False)
         self.same(shows_copies(NEAR, DROP, [(0, 1, 4), (0, 4, 0)]), False)
         self.same(shows_copies(NEAR, DROP, [(0, 1, 5), (0, 5, 1)]), False)
         self.same(shows_copies(NEAR, DROP, [(0, 2, 6), (0, 6, 0)]), False)
         self.same(shows_copies(NEAR, DROP, [(0, 1, 5), (0, 5, 0), (0, 0, 0)]), False)
         self.same(shows_copies(NEAR, DROP, [(0, 1, 5), (0, 5, 0), (7, 7, 8)]), False)
+
+        self.same([shows_copies(FULL, PUT, TOLD.copies[:5] + ((3, 10, to), (3, to, 2))) for to in (-2, -1, 3, 10, 11)],
+                  [False, False, True, False, True])
 
     def test_files_of_lesser_ranks_may_move_and_come_back(self):
         layout = Layout(2, 2, [(0, [("file", 0, 1)], []), (1, [("file", 1, 2)], [])])

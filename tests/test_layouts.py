@@ -122,7 +122,7 @@ class Made(Case):
             (5, good), (6, [(0, payload[::-1], [("shade", 2, 1)]), good[1]]),
             (6, [(0, payload, [("shade", 2, 1)]), (2, [("file", 4, 4)], [("file", 5, 2)])]),
             # Ranks of things, and of regions.
-            (6, good[::-1]), (6, [good[0], good[0]]), (6, [(0, [("file", 1, 2)], [])]), (6, [(1, [("file", 1, 1)], [])]),
+            (6, good[::-1]), (6, [good[0], good[0]]), (6, [(0, [("file", 1, 1)], []), (0, [("file", 2, 1)], [])]), (6, [(0, [("file", 1, 2)], [])]), (6, [(1, [("file", 1, 1)], [])]),
             (9, [(0, [("file", k, 1) for k in range(4)], [("file", 5, 2)])]),
             # No more used than the room has.
             (6, [(0, payload, [("shade", 2, 1), ("file", 5, 1)])]), (6, [good[0], (2, [("file", 3, 4)], [("file", 5, 3)])]),

@@ -325,6 +325,9 @@ class Equal(Case):
                   rest(after(first_state(2), ("put", B, 3))), rest(after(first_state(2), ("put", A, 2))),
                   after(first_state(2), ("put", A, 3)), followed(one, ("view", 0), ("letgo", 0)), after(one, ("drop", 0)),
                   state_of([("start", 2, 1, 0)]), followed(one, ("view", 0), ("drop", 0))]
+        seen = followed(one, ("view", 0), ("view", 1))
+        self.assertIs(after(seen, ("letgo", 0)) == after(seen, ("letgo", 1)), False)
+        self.assertIs(after(seen, ("letgo", 0)) == seen, False)
         for other in unlike + NO_OBJECTS + [State, one.layout, records_of(one)]:
             self.assertIs(one == other, False)
             self.assertIs(other == one, False)
