@@ -86,6 +86,11 @@ def writes(history):
     return tuple(rows)
 
 
+def sizes_to_price(history):
+    """The sizes of all files that the history writes, and those of its deeds."""
+    return [size for row in writes(history) for _, size in row], sizes(history)
+
+
 def _writes_of(deed, layout, told):
     word, number = deed
     pairs = []

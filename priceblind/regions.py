@@ -14,6 +14,11 @@ def rank_by(size):
     return size.bit_length() - 1
 
 
+def doublings_to(many):
+    """The least L for which 2^L is so many or more."""
+    return (many - 1).bit_length()
+
+
 def cells_of(things):
     """How many cells the things take together."""
     return sum([size for _, _, size in things])

@@ -7,22 +7,28 @@ from priceblind.papers import Paper, fixed
 from priceblind.regions import LAST_RANK, files_of, placed, rank_by
 
 
-def _ranks_in_rooms(layout, rank):
-    """The ranks of all things in rooms of regions of this rank or more."""
-    return [rank_by(size) for at_rank, _, room in layout.regions if at_rank >= rank for _, _, size in room]
+def _things_below(layout, rank):
+    """The things of lesser ranks that lie in rooms of regions of this rank or more."""
+    things = [thing for at_rank, _, room in layout.regions if at_rank >= rank for thing in room]
+    return [thing for thing in things if rank_by(thing[2]) < rank]
+
+
+def falls(layout, size):
+    """The things to whose ranks, one after another, the rank falls from which a deed of this size tidies."""
+    found = []
+    below = _things_below(layout, rank_by(size))
+    while below != []:
+        thing = min(below, key=lambda each: rank_by(each[2]))
+        found.append(thing)
+        below = _things_below(layout, rank_by(thing[2]))
+    return found
 
 
 def rank_from(layout, size):
     """The rank from which a deed of this size tidies the layout, whether or not it needs to."""
     check_layout(layout)
     check_size(size)
-    rank = rank_by(size)
-    least = rank
-    while least is not None:
-        rank = least
-        below = [each for each in _ranks_in_rooms(layout, rank) if each < rank]
-        least = min(below, default=None)
-    return rank
+    return min([rank_by(size)] + [rank_by(thing[2]) for thing in falls(layout, size)])
 
 
 def _check_parts(layout, rank, put, drop):
@@ -38,7 +44,7 @@ def _check_parts(layout, rank, put, drop):
 def anew(layout, rank, put=None, drop=None):
     """The Layout that stands behind a tidying from this rank, with the put file, without the dropped one."""
     _check_parts(layout, rank, put, drop)
-    if any([each < rank for each in _ranks_in_rooms(layout, rank)]):
+    if _things_below(layout, rank) != []:
         raise Misfit("rank")
     if put is not None and rank_by(put) < rank:
         raise Misfit("put")
