@@ -1,5 +1,5 @@
 """Books: what was done, told by records on a disk, so that no cut leaves a doubt about it."""
-from priceblind.checks import LETTERS, LONGEST_NAME, is_name, is_within
+from priceblind.checks import LETTERS, is_name, is_within
 from priceblind.disks import check_disk, may_be_held
 from priceblind.errors import BadDeeds, BadName, BadNumber, Misfit
 from priceblind.rows import EVEN_TRACK, HOW_MANY, ODD_TRACK, ROW, WHOLE

@@ -1,28 +1,24 @@
 """Enemies: histories that come near the bounds, or for which first fit needs far more."""
-from priceblind.checks import GREATEST_SIZE, is_q, is_size, is_within
+from priceblind.checks import GREATEST_SIZE, is_size, is_within
 from priceblind.errors import BadNumber, TooMany
 from priceblind.fits import Strip
 from priceblind.histories import MOST_DEEDS, History
+from priceblind.layouts import check_q
 from priceblind.regions import rank_by
 
 MOST_TURNS = 1000
 MOST_ROUNDS = 8
 
 
-def _check_q(q):
-    if not is_q(q):
-        raise BadNumber("q")
-
-
 def fullest(q):
     """The length is as great as it may be by what is live."""
-    _check_q(q)
+    check_q(q)
     return History(q, [("put", 1)] * q + [("drop", 0)])
 
 
 def dear(q, t, u, turns):
     """Files of the size t are copied in each turn, for the deeds of few files of the size u."""
-    _check_q(q)
+    check_q(q)
     if not is_within(t, 2, GREATEST_SIZE):
         raise BadNumber("t")
     if not is_size(u) or rank_by(u) >= rank_by(t):
@@ -38,7 +34,7 @@ def dear(q, t, u, turns):
 
 def scattered(q, k):
     """First fit needs ever more cells, however few are live."""
-    _check_q(q)
+    check_q(q)
     if not is_within(k, 1, MOST_ROUNDS):
         raise BadNumber("k")
     strip = Strip()

@@ -1,8 +1,7 @@
 """Histories: the run of a store without a disk."""
-from priceblind.checks import is_q
 from priceblind.deeds import are_deeds
-from priceblind.errors import BadDeeds, BadNumber, NoFile, TooMany
-from priceblind.layouts import empty
+from priceblind.errors import BadDeeds, NoFile, TooMany
+from priceblind.layouts import check_q, empty
 from priceblind.papers import fixed
 from priceblind.regions import files_of
 from priceblind.steps import step
@@ -28,8 +27,7 @@ class History:
     """A q and a row of deeds that are done one behind another. It never changes."""
 
     def __init__(self, q, deeds):
-        if not is_q(q):
-            raise BadNumber("q")
+        check_q(q)
         if not are_deeds(deeds):
             raise BadDeeds("deeds")
         _check_drops(deeds)

@@ -12,6 +12,12 @@ def rank_of(size):
     return rank_by(size)
 
 
+def check_q(q):
+    """Raises an error for what is no q, by which strips are laid out."""
+    if not is_q(q):
+        raise BadNumber("q")
+
+
 def check_size(size):
     """Raises an error for what is no size of a file."""
     if not is_size(size):
@@ -22,8 +28,7 @@ class Layout:
     """How files, and what is left of dropped ones, lie on the strip. It never changes."""
 
     def __init__(self, q, puts, regions):
-        if not is_q(q):
-            raise BadNumber("q")
+        check_q(q)
         if not is_within(puts, 0, None):
             raise BadNumber("puts")
         kept = fixed(regions)

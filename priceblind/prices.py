@@ -1,7 +1,8 @@
 """Prices: what files of each size cost to write, and what a history costs by them."""
-from priceblind.checks import is_q, is_within
+from priceblind.checks import is_within
 from priceblind.errors import BadNumber, BadPrices, Impossible, Misfit
 from priceblind.histories import sizes_to_price
+from priceblind.layouts import check_q
 from priceblind.papers import Denial, Paper, fixed
 from priceblind.regions import doublings_to, rank_by
 
@@ -171,20 +172,15 @@ def _sum_by(table, of_files):
     return sum([table[size - 1] for size in of_files])
 
 
-def _check_q(q):
-    if not is_q(q):
-        raise BadNumber("q")
-
-
 def most(q):
     """How many times what the deeds cost all writes cost at most, by any prices."""
-    _check_q(q)
+    check_q(q)
     return 3 + 16 * q * (3 + doublings_to(q))
 
 
 def most_for(q, table):
     """How many times what the deeds cost all writes cost at most by these numbers, rounded up."""
-    _check_q(q)
+    check_q(q)
     t, u = steepness(table)
     upper, lower = _steepness_at(table, t, u)
     return 3 - (-8 * q * (3 + doublings_to(q)) * upper) // lower

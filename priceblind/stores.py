@@ -1,9 +1,9 @@
 """Stores: files on the strip of a disk, kept whole through any cut of the power."""
 from priceblind.books import Book, name_number
-from priceblind.checks import is_integer, is_name, is_q, is_size
+from priceblind.checks import is_integer, is_name, is_size
 from priceblind.disks import may_be_held
-from priceblind.errors import BadContents, BadName, BadNumber, Misfit, NoFile, NoView, TooMany, Twice
-from priceblind.layouts import length, places
+from priceblind.errors import BadContents, BadName, Misfit, NoFile, NoView, TooMany, Twice
+from priceblind.layouts import check_q, length, places
 from priceblind.regions import files_of
 from priceblind.states import after, first_state, records_of, state_of, unowned
 from priceblind.turned import MOST_FILES, MOST_VIEWS
@@ -22,9 +22,10 @@ def _are_contents(value):
 
 def _state_on(book, q):
     """The state that a book means; if none counts the one in which nothing was ever put."""
-    if q is not None and not is_q(q):
-        raise BadNumber("q")
+    if q is not None:
+        check_q(q)
     if book.generation == 0:
+        # Without a q this raises BadNumber, as a new strip needs one.
         return first_state(q)
     try:
         state = state_of(book.records())

@@ -53,6 +53,13 @@ class Language(unittest.TestCase):
                         value = getattr(module, alias.name)
                         self.assertEqual(getattr(value, "__module__", node.module), node.module, path.name)
 
+    def test_what_is_imported_is_used(self):
+        for path in FILES:
+            tree = ast.parse(path.read_text(encoding="utf-8"))
+            names = {alias.name for node in tree.body if isinstance(node, ast.ImportFrom) for alias in node.names}
+            used = {node.id for node in ast.walk(tree) if isinstance(node, ast.Name)}
+            self.assertEqual((path.name, names - used), (path.name, set()))
+
     def test_what_is_outside_is_found(self):
         for text, rule in OUTSIDE:
             with self.subTest(text=text[:60]):

@@ -225,6 +225,25 @@ class Wrong(Case):
             self.unchanged(disk, store, NoFile, {"value": value}, store.read_in, 0, value)
         self.same(store.read_in(0, "a"), (7, 8, 9))
 
+    def test_what_only_says_that_it_is_equal(self):
+        class Same:
+            def __eq__(self, other):
+                return True
+
+            def __hash__(self):
+                return hash("a")
+
+        disk, store = small_store()
+        value = Same()
+        self.unchanged(disk, store, BadName, {"part": "name"}, store.put, value, [1])
+        self.unchanged(disk, store, BadContents, {"part": "contents"}, store.put, "d", [value])
+        for call in (store.drop, store.read, store.size_of):
+            self.unchanged(disk, store, NoFile, {"value": value}, call, value)
+        for call in (store.names_in, store.let_go):
+            self.unchanged(disk, store, NoView, {"value": value}, call, value)
+        self.unchanged(disk, store, NoFile, {"value": value}, store.read_in, 0, value)
+        self.bad(BadNumber, "q", Store, disk, value)
+
     def test_no_view(self):
         disk, store = small_store()
         store.view()
